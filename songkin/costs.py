@@ -1,4 +1,4 @@
-"""What the costs are, and what a step costs by them."""
+"""What the costs are, and what it costs that one note stands for another."""
 
 from songkin.errors import NotAsTold
 
@@ -21,23 +21,6 @@ def costs_of(numbers):
     if max(numbers) > HIGHEST_COST:
         raise NotAsTold()
     return Costs(numbers[0], numbers[1], numbers[2], numbers[3], numbers[4])
-
-
-def step_cost(costs, ones, others):
-    """Give what a step costs that takes these notes of the first tune and these of the second."""
-    if not ones or not others:
-        return costs.gap * length_together(ones + others)
-    total = costs.long * abs(length_together(ones) - length_together(others))
-    total += costs.more * (max(len(ones), len(others)) - 1)
-    for one in ones:
-        for other in others:
-            total += pair_cost(costs, one, other)
-    return total
-
-
-def length_together(notes):
-    """Give how long the notes are, one behind another."""
-    return sum([note.length for note in notes])
 
 
 def pair_cost(costs, one, other):

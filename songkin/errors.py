@@ -13,5 +13,9 @@ class NoRoom(Exception):
     """The family has as many tunes as it may have."""
 
 
+class NoWay(Exception):
+    """A row of steps is no way from the one tune to the other."""
+
+
 class UnknownCall(Exception):
     """No call has this number."""

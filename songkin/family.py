@@ -1,6 +1,6 @@
 """The calls on one family of tunes, handed in as one list and answered as one."""
 
-from songkin.errors import NoRoom, NoSuchTune, NotAsTold, UnknownCall
+from songkin.errors import NoRoom, NoSuchTune, NotAsTold, NoWay, UnknownCall
 from songkin.reader import Reader
 from songkin.versions import Versions
 
@@ -23,6 +23,8 @@ def answer_or_refusal(versions, reader):
         return [-1]
     except NoSuchTune:
         return [-2]
+    except NoWay:
+        return [-3]
     except NoRoom:
         return [-5]
 
@@ -41,7 +43,24 @@ def answer_of(versions, reader):
     if call == 3:
         found = versions.best(reader.number(), reader.number())
         return [found.least] + as_row([found.many]) + as_row(found.way)
+    if call == 4:
+        return [versions.cost(reader.number(), reader.number(), reader.row())]
+    if call == 5:
+        shifted = versions.shift(reader.number(), reader.number())
+        return [shifted.least] + as_row([shifted.by])
+    if call == 6:
+        return many_and_rows(versions.far())
+    if call == 7:
+        return many_and_rows(versions.tree(reader.number()))
     raise UnknownCall()
+
+
+def many_and_rows(rows):
+    """Give how many rows there are, then each behind how many numbers it has."""
+    told = [len(rows)]
+    for row in rows:
+        told.extend(as_row(row))
+    return told
 
 
 def as_row(numbers):

@@ -1,18 +1,7 @@
-"""The ways from one tune to another: the least cost, how many ways cost so much, the first of them."""
+"""The ways from one tune to another: what one costs, the least cost, how many cost so much, the first of them."""
 
-from songkin.costs import step_cost
-
-# For each step by its number: how many notes it takes of the first tune, and of the second.
-TAKES = ((1, 1), (1, 0), (0, 1), (1, 2), (1, 3), (1, 4), (2, 1), (3, 1), (4, 1))
-
-
-class Onward:
-    """The cheapest ways from a place in both tunes to their ends."""
-
-    def __init__(self, least, many, step):
-        self.least = least
-        self.many = many
-        self.step = step
+from songkin.errors import NoWay
+from songkin.laid import TAKES, Laid
 
 
 class Cheapest:
@@ -24,50 +13,108 @@ class Cheapest:
         self.way = way
 
 
+def way_cost(costs, first, second, steps):
+    """Give what the steps cost, if they are a way from the first tune to the second."""
+    laid = Laid(costs, first, second)
+    total = 0
+    i = 0
+    j = 0
+    for step in steps:
+        if not laid.fits(step, i, j):
+            raise NoWay()
+        total += laid.weights[step][i][j]
+        i += TAKES[step][0]
+        j += TAKES[step][1]
+    if i < len(first) or j < len(second):
+        raise NoWay()
+    return total
+
+
+def least_cost(costs, first, second):
+    """Give what the cheapest way from the first tune to the second costs."""
+    return all_least(Laid(costs, first, second))[0][0]
+
+
 def cheapest_ways(costs, first, second):
     """Give the cheapest ways from the first tune to the second."""
-    onwards = all_onward(costs, first, second)
-    start = onwards[(0, 0)]
-    return Cheapest(start.least, start.many, first_way(onwards, first, second))
+    laid = Laid(costs, first, second)
+    least = all_least(laid)
+    return Cheapest(least[0][0], how_many(laid, least), first_way(laid, least))
 
 
-def all_onward(costs, first, second):
-    """Give the cheapest ways to the ends for each place: how many notes of each tune are taken."""
-    onwards = {}
-    # From the ends backwards, so that the lowest step at each place is known when the first way is followed.
-    for i in range(len(first), -1, -1):
-        for j in range(len(second), -1, -1):
-            onwards[(i, j)] = onward_from(costs, first, second, i, j, onwards)
-    return onwards
+def all_least(laid):
+    """Give what the cheapest way from each place to the ends costs: a row for each place in the first tune."""
+    end = laid.first_many
+    least = [[] for i in range(end + 1)]
+    gaps = laid.weights[2][end]
+    least[end] = [sum(gaps[j:]) for j in range(len(gaps) + 1)]
+    for i in range(end - 1, -1, -1):
+        least[i] = with_step_2(least_without_step_2(laid, least, i), laid.weights[2][i])
+    return least
 
 
-def onward_from(costs, first, second, i, j, onwards):
-    """Give the cheapest ways from one place, when those of all places behind it are known."""
-    if i == len(first) and j == len(second):
-        return Onward(0, 1, None)
-    found = None
+def least_without_step_2(laid, least, i):
+    """Give the least costs from one place in the first tune, if the next step is any but step 2."""
+    row = costs_by_step(laid, least, 1, i)
     for step in range(len(TAKES)):
-        i_then = i + TAKES[step][0]
-        j_then = j + TAKES[step][1]
-        if i_then <= len(first) and j_then <= len(second):
-            then = onwards[(i_then, j_then)]
-            least = step_cost(costs, first[i:i_then], second[j:j_then]) + then.least
-            if found is None or least < found.least:
-                found = Onward(least, then.many, step)
-            elif least == found.least:
-                # The steps come by their numbers, so the one that is kept is the lowest of the cheapest.
-                found.many += then.many
-    return found
+        if step != 1 and step != 2 and i + TAKES[step][0] <= laid.first_many:
+            row = lower_of(row, costs_by_step(laid, least, step, i))
+    return row
 
 
-def first_way(onwards, first, second):
+def costs_by_step(laid, least, step, i):
+    """Give what the step and then the cheapest way costs, from each place in the second tune where it fits."""
+    then = least[i + TAKES[step][0]][TAKES[step][1]:]
+    return [weight + after for weight, after in zip(laid.weights[step][i], then)]
+
+
+def lower_of(row, shorter):
+    """Give the lower numbers of two rows at each place, and the row's own where the shorter one has ended."""
+    lower = [one if one < other else other for one, other in zip(row, shorter)]
+    return lower + row[len(shorter):]
+
+
+def with_step_2(row, gaps):
+    """Give the least costs in a row, if the next step may be step 2 as well, which stays in the row."""
+    lower = list(row)
+    for j in range(len(gaps) - 1, -1, -1):
+        lower[j] = min(row[j], gaps[j] + lower[j + 1])
+    return lower
+
+
+def how_many(laid, least):
+    """Give how many ways cost the least."""
+    many = {}
+    for i in range(laid.first_many, -1, -1):
+        for j in range(laid.second_many, -1, -1):
+            steps = cheapest_steps(laid, least, i, j)
+            many[(i, j)] = sum([many[(i + TAKES[step][0], j + TAKES[step][1])] for step in steps])
+            if i == laid.first_many and j == laid.second_many:
+                many[(i, j)] = 1
+    return many[(0, 0)]
+
+
+def first_way(laid, least):
     """Give the steps of the first of the cheapest ways."""
     way = []
     i = 0
     j = 0
-    while i < len(first) or j < len(second):
-        step = onwards[(i, j)].step
+    while i < laid.first_many or j < laid.second_many:
+        step = cheapest_steps(laid, least, i, j)[0]
         way.append(step)
         i += TAKES[step][0]
         j += TAKES[step][1]
     return way
+
+
+def cheapest_steps(laid, least, i, j):
+    """Give the steps with which the cheapest ways go on from a place, the lowest number first."""
+    return [step for step in range(len(TAKES)) if is_cheapest(laid, least, step, i, j)]
+
+
+def is_cheapest(laid, least, step, i, j):
+    """Tell whether a cheapest way goes on from a place with this step."""
+    if not laid.fits(step, i, j):
+        return False
+    then = least[i + TAKES[step][0]][j + TAKES[step][1]]
+    return laid.weights[step][i][j] + then == least[i][j]

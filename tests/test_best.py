@@ -2,7 +2,8 @@
 
 import unittest
 
-from tests.helper import ONES, REST, best, best_between, best_by_search, best_told, told, tune
+from tests.helper import (ONES, REST, SOME_COSTS, TAKEN, best, best_between, best_by_search, best_told,
+                          least_by_words, small_tunes, told, tune)
 
 
 class Steps(unittest.TestCase):
@@ -116,7 +117,7 @@ class Extremes(unittest.TestCase):
         many = {(0, 0): 1}
         for i in range(first + 1):
             for j in range(second + 1):
-                for down, over in [(1, 1), (1, 0), (0, 1), (1, 2), (1, 3), (1, 4), (2, 1), (3, 1), (4, 1)]:
+                for down, over in TAKEN:
                     if i >= down and j >= over:
                         many[(i, j)] = many.get((i, j), 0) + many[(i - down, j - over)]
         return many[(first, second)]
@@ -143,25 +144,9 @@ class Extremes(unittest.TestCase):
 
 
 class Search(unittest.TestCase):
-    COSTS = [ONES, (0, 0, 0, 0, 0), (10000,) * 5, (1, 3, 1, 2, 1), (2, 1, 0, 1, 0), (0, 5, 2, 3, 1),
-             (3, 0, 1, 1, 2), (10000, 10000, 0, 0, 0), (1, 2, 0, 10000, 0), (0, 1, 10000, 3, 10000)]
-
-    def small_tunes(self, many, longest):
-        """So many tunes, alike enough that ways are often equal; always the same ones."""
-        number = 20250
-        tunes = []
-        for place in range(many):
-            notes = []
-            for _ in range(place % (longest + 1)):
-                number = (number * 1103515245 + 12345) % 2147483648
-                told_by = number // 65536
-                notes.append((REST if told_by % 5 == 0 else 60 + told_by // 5 % 4, 1 + told_by // 20 % 4))
-            tunes.append(notes)
-        return tunes
-
     def test_all_pairs_of_small_tunes(self):
-        tunes = self.small_tunes(15, 4)
-        for costs in self.COSTS:
+        tunes = small_tunes(15, 4)
+        for costs in SOME_COSTS:
             for first in tunes:
                 for second in tunes:
                     with self.subTest(costs=costs, first=first, second=second):
@@ -169,12 +154,20 @@ class Search(unittest.TestCase):
                                          best_by_search(costs, first, second))
 
     def test_some_pairs_of_longer_tunes(self):
-        tunes = self.small_tunes(7, 6)
+        tunes = small_tunes(7, 6)
         for k, first in enumerate(tunes):
-            for costs in self.COSTS[:6]:
+            for costs in SOME_COSTS[:6]:
                 second = tunes[(k + 6) % 7]
                 with self.subTest(costs=costs, first=first, second=second):
                     self.assertEqual(best_between(costs, first, second), best_by_search(costs, first, second))
+
+    def test_what_long_tunes_cost(self):
+        tunes = small_tunes(25, 24)
+        for costs in SOME_COSTS:
+            for first, second in [(24, 24), (24, 23), (13, 24), (24, 2)]:
+                with self.subTest(costs=costs, first=first, second=second):
+                    self.assertEqual(best_between(costs, tunes[first], tunes[second][::-1])[0],
+                                     least_by_words(costs, tunes[first], tunes[second][::-1]))
 
 
 if __name__ == "__main__":
